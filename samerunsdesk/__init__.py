@@ -1,0 +1,1 @@
+"""Programs of actions, choices, loops and tests, and which are the same."""
