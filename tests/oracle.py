@@ -86,9 +86,35 @@ def runs(node, numbers, most_actions):
     return found
 
 
+def earliest(found):
+    """The first of these runs, as a list; None if there is none."""
+    if not found:
+        return None
+    return list(min(found, key=lambda run: (len(run), run)))
+
+
 def first_difference(p, q, numbers, most_actions):
     """The first run that one of p and q has and the other hasn't, as a list; None if there is none so short."""
-    differing = runs(parse(p), numbers, most_actions) ^ runs(parse(q), numbers, most_actions)
-    if not differing:
-        return None
-    return list(min(differing, key=lambda run: (len(run), run)))
+    return earliest(runs(parse(p), numbers, most_actions) ^ runs(parse(q), numbers, most_actions))
+
+
+def first_missing(p, q, numbers, most_actions):
+    """The first run that p has and q hasn't, as a list; None if there is none so short."""
+    return earliest(runs(parse(p), numbers, most_actions) - runs(parse(q), numbers, most_actions))
+
+
+def is_program(text):
+    try:
+        return tests_are_negated(parse(text))
+    except ValueError:
+        return False
+
+
+def tests_are_negated(node):
+    if node[0] == "!" and not is_test(node[1]):
+        return False
+    return all(tests_are_negated(part) for part in node[1:])
+
+
+def is_test(node):
+    return node[0] not in "*abcdefgh" and all(is_test(part) for part in node[1:])

@@ -1,13 +1,11 @@
 """Promise 1: same, with the refusals and what stands ahead of the promises in the document."""
 
 import random
-import sys
 import unittest
 
 import samerunsdesk.programs
 from tests import oracle
-
-LARGEST_MOST = 1048576
+from tests.helpers import GUARDS, LARGEST_MOST, Unchanging, changed_a_little, random_program, with_few_calls
 
 
 def same(p, q, most=LARGEST_MOST):
@@ -334,16 +332,6 @@ class OrderOfRefusals(SameCase):
         self.assertEqual(same("a" + ";a" * 12, "b", 0), [-2])
 
 
-class Unchanging(list):
-    """A list that refuses to be changed, even for a while."""
-
-    def refuse(self, *args, **kwargs):
-        raise AssertionError("what is handed in was changed")
-
-    append = clear = extend = insert = pop = remove = reverse = sort = refuse
-    __setitem__ = __delitem__ = __iadd__ = __imul__ = refuse
-
-
 class HowItIsCalled(SameCase):
     TEXTS = ["(A;a)*;!A", "(A;a)*;!A;(A;b)*;!A", "a+b", "b", "!a", "", "!!A*"]
 
@@ -381,58 +369,26 @@ class HowItIsCalled(SameCase):
         self.assertEqual(samerunsdesk.programs.same(most=3, p=[97], q=[98]), [3, 0, 0, 0])
 
     def test_long_and_deep_texts_need_few_calls_within_one_another(self):
-        depth = 0
-        frame = sys._getframe()
-        while frame is not None:
-            depth, frame = depth + 1, frame.f_back
-        before = sys.getrecursionlimit()
-        sys.setrecursionlimit(depth + 25)
-        try:
-            answers = [
-                same("!A" + ";A" * 127, "(" * 32 + "0" + ")" * 32),
-                same("a" + "*" * 255, "!" * 32 + "1+a*"),
-                same("!" * 256, "(" * 256),
-            ]
-        finally:
-            sys.setrecursionlimit(before)
+        answers = with_few_calls(lambda: [
+            same("!A" + ";A" * 127, "(" * 32 + "0" + ")" * 32),
+            same("a" + "*" * 255, "!" * 32 + "1+a*"),
+            same("!" * 256, "(" * 256),
+        ])
         self.assertEqual(answers, [[0], [0], [-2]])
 
 
 class ManyStates(SameCase):
     """The states of such programs are thousands, and pairs of them would be millions."""
 
-    GUARDS = ["(B+C)", "(C+D)", "(D+E)", "(E+F)", "(F+B)", "(A+B)", "!(B;C)", "!(C;D)", "!(D;E)", "!(E;F)"]
-
     def test_same_runs(self):
-        p = "a*;A;a" + "".join(";" + guard + ";a" for guard in self.GUARDS)
-        q = "a*;A;a" + "".join(";" + guard + ";(0+a)" for guard in self.GUARDS)
+        p = "a*;A;a" + "".join(";" + guard + ";a" for guard in GUARDS)
+        q = "a*;A;a" + "".join(";" + guard + ";(0+a)" for guard in GUARDS)
         self.check_same(p, q)
         self.check_same("(" + p + ")*", "(" + q + ")*")
 
     def test_a_difference_at_the_end(self):
         p = "a*;A;a" + ";a" * 10
         self.check_differ(p, p + ";!(A;B;C)", [1] + [0] * 21 + [7])
-
-
-def random_test(source, depth):
-    draw = source.randrange(6)
-    if depth == 0 or draw < 2:
-        return source.choice("01AABB")
-    if draw < 4:
-        return "!" + source.choice(["A", "B", "(" + random_test(source, depth - 1) + ")"])
-    return "(" + random_test(source, depth - 1) + source.choice(";+") + random_test(source, depth - 1) + ")"
-
-
-def random_program(source, depth):
-    draw = source.randrange(10)
-    if depth == 0 or draw == 0:
-        return source.choice(["a", "b", "a", random_test(source, 1)])
-    if draw < 3:
-        return random_program(source, 0) + "*"
-    if draw < 5:
-        return "(" + random_program(source, depth - 1) + ")*"
-    one, other = random_program(source, depth - 1), random_program(source, depth - 1)
-    return source.choice(["{};{}", "{}+{}", "({};{})", "({}+{})"]).format(one, other)
 
 
 class AgainstTheWordsOfTheDocument(SameCase):
@@ -461,11 +417,7 @@ class AgainstTheWordsOfTheDocument(SameCase):
         seen = {}
         for turn in range(400):
             p = random_program(source, 4)
-            while sum(p.count(action) for action in "ab") > 12:
-                p = random_program(source, 4)
-            place = source.randrange(len(p))
-            change = {"A": "B", "B": "A", "a": "b", "b": "a", "0": "1", "1": "0"}
-            q = p[:place] + change.get(p[place], p[place]) + p[place + 1:]
+            q = changed_a_little(source, p)
             seen[self.check_pair(p, q)] = True
         self.assertTrue(all(length in seen for length in [0, 1, 3, 5, 7]), seen)
 
@@ -474,25 +426,8 @@ class AgainstTheWordsOfTheDocument(SameCase):
         texts = [""]
         for length in range(5):
             for text in texts:
-                self.assertEqual(same(text, text), [0] if is_program(text) else [-2], text)
+                self.assertEqual(same(text, text), [0] if oracle.is_program(text) else [-2], text)
             texts = [text + sign for text in texts for sign in signs]
-
-
-def is_program(text):
-    try:
-        return tests_are_negated(oracle.parse(text))
-    except ValueError:
-        return False
-
-
-def tests_are_negated(node):
-    if node[0] == "!" and not is_test(node[1]):
-        return False
-    return all(tests_are_negated(part) for part in node[1:])
-
-
-def is_test(node):
-    return node[0] not in "*abcdefgh" and all(is_test(part) for part in node[1:])
 
 
 if __name__ == "__main__":
