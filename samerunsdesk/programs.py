@@ -1,25 +1,21 @@
-"""Which programs have the same runs, which has runs that another hasn't, and the first such run."""
+"""What is asked of programs: whether one has the runs of another, and whether it ends where a test holds."""
 
-from samerunsdesk.reading import NotAProgram
+from samerunsdesk.reading import ALL_NUMBERS
+from samerunsdesk.reading import WrongText
 from samerunsdesk.reading import read_program
+from samerunsdesk.reading import read_test
 from samerunsdesk.searching import Differing
 from samerunsdesk.searching import Missing
 from samerunsdesk.searching import first_run
+from samerunsdesk.tables import START
+from samerunsdesk.tables import bounded
 from samerunsdesk.tables import put_together
 
 MOST_MOST = 1048576
 
 
-def compared(most, p, q, pairs):
-    if most < 0 or most > MOST_MOST:
-        return [-1]
-    try:
-        one = read_program(p)
-        other = read_program(q)
-    except NotAProgram:
-        return [-2]
-    run = first_run(put_together(one, other), pairs, 1, 1 << len(one.actions))
-    return answer(run, most)
+def is_most(most):
+    return 0 <= most and most <= MOST_MOST
 
 
 def answer(run, most):
@@ -30,9 +26,35 @@ def answer(run, most):
     return [len(run)] + run
 
 
+def compared(most, p, q, pairs):
+    if not is_most(most):
+        return [-1]
+    try:
+        one = read_program(p)
+        other = read_program(q)
+    except WrongText:
+        return [-2]
+    run = first_run(put_together(one, other), pairs, START, START << len(one.actions))
+    return answer(run, most)
+
+
 def same(most, p, q):
     return compared(most, p, q, Differing())
 
 
 def under(most, p, q):
     return compared(most, p, q, Missing())
+
+
+def holds(most, t, p, u):
+    if not is_most(most):
+        return [-1]
+    try:
+        begins = read_test(t)
+        program = read_program(p)
+        wanted = read_test(u)
+    except WrongText:
+        return [-2]
+    # State 0 has no runs, so every run that breaks what is asked is one that it hasn't.
+    breaking = bounded(program, begins, ALL_NUMBERS ^ wanted)
+    return answer(first_run(breaking, Missing(), START, 0), most)

@@ -1,4 +1,4 @@
-"""Reads the text of a program, and makes its table of places."""
+"""Reads the text of a program, and makes its table of places; or that of a test, and tells where it holds."""
 
 from samerunsdesk.tables import Program
 from samerunsdesk.tables import either
@@ -21,7 +21,7 @@ TESTS = {
 }
 
 
-class NotAProgram(ValueError):
+class WrongText(ValueError):
     pass
 
 
@@ -42,7 +42,7 @@ def choice(one, other):
 
 def negation(part):
     if not part.is_test:
-        raise NotAProgram("! stands ahead of what is not a test")
+        raise WrongText("! stands ahead of what is not a test")
     return Part(True, ALL_NUMBERS ^ part.alone, {}, {})
 
 
@@ -64,7 +64,7 @@ class Reader:
         elif sign in ACTIONS:
             self.put(self.action(sign))
         else:
-            raise NotAProgram("something is missing ahead of a sign")
+            raise WrongText("something is missing ahead of a sign")
         return False
 
     def go_on(self, sign):
@@ -79,26 +79,26 @@ class Reader:
         elif sign == "+":
             self.combine(";+")
         else:
-            raise NotAProgram("a sign is missing between two parts")
+            raise WrongText("a sign is missing between two parts")
         self.signs.append(sign)
         return True
 
     def finish(self):
         self.combine(";+")
         if self.signs:
-            raise NotAProgram("a bracket is not closed")
+            raise WrongText("a bracket is not closed")
         return self.parts.pop()
 
     def open_sign(self, sign):
         if self.depth == MOST_DEPTH:
-            raise NotAProgram("brackets and ! lie too deep")
+            raise WrongText("brackets and ! lie too deep")
         self.depth += 1
         self.signs.append(sign)
 
     def close_bracket(self):
         self.combine(";+")
         if not self.signs:
-            raise NotAProgram("a bracket is closed that was not opened")
+            raise WrongText("a bracket is closed that was not opened")
         self.signs.pop()
         self.depth -= 1
         self.put(self.parts.pop())
@@ -122,7 +122,7 @@ class Reader:
     def action(self, sign):
         place = len(self.actions)
         if place > MOST_ACTIONS:
-            raise NotAProgram("too many actions")
+            raise WrongText("too many actions")
         self.actions.append(ACTIONS.index(sign))
         self.onward.append({})
         return Part(False, 0, {place: ALL_NUMBERS}, {place: ALL_NUMBERS})
@@ -149,13 +149,12 @@ def signs_of(text):
     found = []
     for byte in text:
         if byte not in signs:
-            raise NotAProgram("a byte is no sign of a program")
+            raise WrongText("a byte is no sign of a program")
         found.append(signs[byte])
     return found
 
 
-def read_program(text):
-    reader = Reader()
+def read_whole(reader, text):
     awaits_part = True
     for sign in signs_of(text):
         if awaits_part:
@@ -163,9 +162,22 @@ def read_program(text):
         else:
             awaits_part = reader.go_on(sign)
     if awaits_part:
-        raise NotAProgram("the text ends where a part is missing")
-    whole = reader.finish()
+        raise WrongText("the text ends where a part is missing")
+    return reader.finish()
+
+
+def read_program(text):
+    reader = Reader()
+    whole = read_whole(reader, text)
     onward = [either({0: whole.alone}, whole.first)]
     for place in range(1, len(reader.actions)):
         onward.append(either({0: whole.last.get(place, 0)}, reader.onward[place]))
     return Program(list(reader.actions), onward)
+
+
+# The numbers by which the test holds: a test's table would tell no more.
+def read_test(text):
+    whole = read_whole(Reader(), text)
+    if not whole.is_test:
+        raise WrongText("a program with actions or stars is no test")
+    return whole.alone

@@ -7,7 +7,8 @@ ends. For each place the table has the places that may come next, and with which
 
 NUMBERS = 64
 ACTION_NUMBERS = 8
-# The bit of place 0 among the places that come next: the run may end there.
+# Both are the bit of place 0: as a state it is where runs begin, among the places that come next where they end.
+START = 1
 END = 1
 
 
@@ -50,6 +51,19 @@ def moved_row(row, base):
         else:
             moved[place + base] = row[place]
     return moved
+
+
+# Of the program's runs, those that begin with a number of begins and end with one of ends.
+def bounded(program, begins, ends):
+    onward = [with_ends(row, ends) for row in program.onward]
+    onward[0] = narrowed(onward[0], begins)
+    return Program(list(program.actions), onward)
+
+
+def with_ends(row, ends):
+    bound = dict(row)
+    bound[0] = row.get(0, 0) & ends
+    return bound
 
 
 def places_at(row, number):

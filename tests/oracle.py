@@ -103,6 +103,13 @@ def first_missing(p, q, numbers, most_actions):
     return earliest(runs(parse(p), numbers, most_actions) - runs(parse(q), numbers, most_actions))
 
 
+def first_breach(t, p, u, numbers, most_actions):
+    """p's first run that begins where t holds and ends where u doesn't, as a list; None if there is none so short."""
+    begins, wanted = runs(parse(t), numbers, 0), runs(parse(u), numbers, 0)
+    found = runs(parse(p), numbers, most_actions)
+    return earliest([run for run in found if run[:1] in begins and run[-1:] not in wanted])
+
+
 def is_program(text):
     try:
         return tests_are_negated(parse(text))
