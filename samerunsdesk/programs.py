@@ -1,9 +1,11 @@
-"""What is asked of programs: whether one has the runs of another, and whether it ends where a test holds."""
+"""What is asked of programs: whether one has the runs of another, ends where a test holds, or has a run."""
 
 from samerunsdesk.reading import ALL_NUMBERS
 from samerunsdesk.reading import WrongText
 from samerunsdesk.reading import read_program
 from samerunsdesk.reading import read_test
+from samerunsdesk.runs import has_run
+from samerunsdesk.runs import is_run
 from samerunsdesk.searching import Differing
 from samerunsdesk.searching import Missing
 from samerunsdesk.searching import first_run
@@ -58,3 +60,13 @@ def holds(most, t, p, u):
     # State 0 has no runs, so every run that breaks what is asked is one that it hasn't.
     breaking = bounded(program, begins, ALL_NUMBERS ^ wanted)
     return answer(first_run(breaking, Missing(), START, 0), most)
+
+
+def has(p, run):
+    try:
+        program = read_program(p)
+    except WrongText:
+        return [-2]
+    if not is_run(run):
+        return [-3]
+    return [1 if has_run(program, run) else 0]

@@ -62,7 +62,7 @@ def bounded(program, begins, ends):
 
 def with_ends(row, ends):
     bound = dict(row)
-    bound[0] = row.get(0, 0) & ends
+    bound[0] = row[0] & ends
     return bound
 
 

@@ -179,7 +179,7 @@ class Most(HoldsCase):
 
 class WrongTexts(HoldsCase):
     NO_PROGRAMS = ["", " ", "A ", "i", "G", "2", "AB", "A;", "+A", "A++B", "()", "(A", "A)", "*", "!a", "!(A*)", "A\0"]
-    NO_TESTS = ["a", "A;a", "a;0", "0;a", "0+h", "(a)", "A*", "0*", "1*", "(A)*", "!A*", "(!A)*", "A;B*", "a*", "(A;(B*))"]
+    NO_TESTS = ["a", "A;a", "a;0", "0;a", "0+h", "(a)", "A*", "0*", "1*", "(A)*", "!A*", "A;B*", "a*", "(A;(B*))"]
     TESTS = ["0", "1", "A", "F", "!A", "!!A", "(A)", "!(A;B)", "A;B+!C", "(A+B);(C+!(D;E))", "!0", "!(1)"]
 
     def check_wrong(self, t, p, u):
